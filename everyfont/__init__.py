@@ -1,0 +1,1 @@
+"""Everyfont: written mathematics set for all fonts at once."""

@@ -1,0 +1,52 @@
+"""The names, the files and the parameters that the document's interface tells."""
+
+import importlib
+import inspect
+import unittest
+
+PARAMETERS = {
+    "numbers": {
+        "check_fraction": "value", "lowest": "top bottom", "added": "one other", "minus": "one other",
+        "times": "one other", "divided": "one other", "halfway": "one other", "compared": "one other",
+    },
+    "points": {"check_point": "size value", "point_of": "numbers", "numbers_of": "point"},
+    "rows": {
+        "check_row": "size value", "row_of": "numbers", "coefficients_of": "row", "row_value": "row point",
+        "row_sign": "row point", "row_added": "one other", "row_minus": "one other", "row_times": "row value",
+        "row_through": "row rows",
+    },
+    "formulas": {
+        "check_formula": "value", "words_of": "formula", "depth_of": "formula", "paths_of": "formula",
+        "part_at": "formula path", "level_at": "formula path", "put_at": "formula path part", "parts_of": "formula",
+        "signs_of": "formula",
+    },
+    "fonts": {
+        "check_name": "value", "check_font": "value", "is_lawful": "font", "number_of": "font name",
+        "times_font": "font value", "put_font": "font other", "cut_font": "font names", "needed": "formula",
+    },
+}
+
+
+class Interface(unittest.TestCase):
+    def test_functions_stand_in_their_files(self):
+        for file, functions in PARAMETERS.items():
+            module = importlib.import_module("everyfont." + file)
+            for name, parameters in functions.items():
+                with self.subTest(file=file, function=name):
+                    function = getattr(module, name)
+                    self.assertTrue(inspect.isfunction(function))
+                    self.assertEqual(function.__module__, "everyfont." + file)
+                    self.assertEqual(list(inspect.signature(function).parameters), parameters.split())
+
+    def test_arguments_may_be_passed_by_position_or_by_name(self):
+        for file, functions in PARAMETERS.items():
+            module = importlib.import_module("everyfont." + file)
+            for name in functions:
+                for parameter in inspect.signature(getattr(module, name)).parameters.values():
+                    with self.subTest(file=file, function=name, parameter=parameter.name):
+                        self.assertIs(parameter.kind, inspect.Parameter.POSITIONAL_OR_KEYWORD)
+                        self.assertIs(parameter.default, inspect.Parameter.empty)
+
+
+if __name__ == "__main__":
+    unittest.main()
