@@ -1,7 +1,7 @@
 """FONTS: numbers with NAMES, and which of them a FORMULA needs."""
 
 from everyfont.errors import NotFont, NotName
-from everyfont.formulas import WITH_SIGN, is_sign, walk, word_of
+from everyfont.formulas import WITH_SIGN, is_sign, walk_from, word_of
 from everyfont.numbers import is_fraction, is_int, times
 
 MOST_LEVEL = 7
@@ -118,7 +118,21 @@ def asked(formula, level):
 
 def needed(formula):
     """Return the ascending tuple of the NAMES for which it and all FORMULAS in it ask."""
+    return needed_at(formula, 0)
+
+
+def needed_at(formula, level):
+    """Return the same for a FORMULA at a level."""
     names = []
-    for _, part, level in walk(formula):
-        names.extend(asked(part, level))
+    for _, part, own_level in walk_from((), formula, level):
+        names.extend(asked(part, own_level))
     return tuple(sorted(set(names)))
+
+
+def numbers_for(font, names):
+    """Return the FRACTIONS of a FONT by their NAMES; it has to have all names."""
+    numbers = {name: number for name, number in font}
+    for name in names:
+        if name not in numbers:
+            raise NotFont(name)
+    return numbers

@@ -4,6 +4,8 @@ from math import gcd
 
 from everyfont.errors import NotNumber
 
+ZERO = (0, 1)
+
 
 def is_int(value):
     """Return whether any value is an integer."""
@@ -74,3 +76,25 @@ def halfway(one, other):
 def compared(one, other):
     """Return -1, 0 or 1: whether the first is less, equal, greater."""
     return sign_of(one[0] * other[1] - other[0] * one[1])
+
+
+def opposite(number):
+    """Return the number times -1."""
+    return (-number[0], number[1])
+
+
+def total(numbers):
+    """Return the sum of several numbers."""
+    found = ZERO
+    for number in numbers:
+        found = added(found, number)
+    return found
+
+
+def greatest_of(numbers):
+    """Return the greatest of several numbers, one at least."""
+    found = numbers[0]
+    for number in numbers:
+        if compared(number, found) > 0:
+            found = number
+    return found

@@ -45,6 +45,11 @@ def fault_in_integers(count, value):
     return None
 
 
+def is_point(size, value):
+    """Return whether any value is a POINT of size numbers."""
+    return fault_in_integers(size + 1, value) is None
+
+
 def check_point(size, value):
     """Return any value that is a POINT of size numbers."""
     place = fault_in_integers(size + 1, value)

@@ -5,6 +5,11 @@ from everyfont.numbers import lowest, sign_of
 from everyfont.points import fault_in_integers, numbers_of, point_of, shared_bottom, without_divisor
 
 
+def is_row(size, value):
+    """Return whether any value is a ROW of size numbers."""
+    return fault_in_integers(size + 2, value) is None
+
+
 def check_row(size, value):
     """Return any value that is a ROW of size numbers."""
     place = fault_in_integers(size + 2, value)
@@ -52,6 +57,22 @@ def row_minus(one, other):
 def row_times(row, value):
     """Return the ROW whose value is that of a ROW times a FRACTION."""
     return without_divisor([top * value[0] for top in row[:-1]] + [row[-1] * value[1]])
+
+
+def unit_row(size, number):
+    """Return the ROW of size numbers whose value is the one with this number."""
+    return (0,) * number + (1,) + (0,) * (size - number) + (1,)
+
+
+def weighted_row(size, rows, weights):
+    """Return the ROW of size numbers whose value is the sum of those of rows times FRACTIONS."""
+    used = [(row, weight) for row, weight in zip(rows, weights) if weight[0] != 0]
+    bottom = shared_bottom([row[-1] * weight[1] for row, weight in used])
+    tops = [0] * (size + 1)
+    for row, weight in used:
+        share = weight[0] * (bottom // (row[-1] * weight[1]))
+        tops = [top + share * own for top, own in zip(tops, row[:-1])]
+    return without_divisor(tops + [bottom])
 
 
 def row_through(row, rows):

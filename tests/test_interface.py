@@ -24,6 +24,23 @@ PARAMETERS = {
         "check_name": "value", "check_font": "value", "is_lawful": "font", "number_of": "font name",
         "times_font": "font value", "put_font": "font other", "cut_font": "font names", "needed": "formula",
     },
+    "families": {
+        "check_family": "value", "family_pairs": "family", "family_font": "family point", "is_font_of": "family font",
+        "need_served": "family formula",
+    },
+    "boxes": {"box_of": "formula font", "box_at": "formula level font"},
+    "places": {"place_of": "formula font path", "sides_of": "formula font path"},
+    "texts": {"formula_text": "formula", "read_formula": "text", "font_text": "font", "read_font": "text"},
+    "systems": {
+        "check_system": "count system", "holds_all": "count system point", "first_broken": "count system point"},
+    "bars": {
+        "point_or_bar": "count system", "is_bar": "count system weights", "implied": "count system row",
+        "needless": "count system",
+    },
+    "best": {
+        "greatest": "count system row", "least": "count system row", "greatest_paper": "count system row",
+        "check_greatest": "count system row paper", "range_of": "count system row",
+    },
 }
 
 

@@ -24,6 +24,24 @@ BUILTINS = set("""
     RuntimeError NotImplementedError AttributeError StopIteration NotImplemented object
 """.split())
 
+# L25, L26: which methods of builtin values may be called, and what no attribute may be called.
+METHODS = set("""
+    append clear copy count endswith extend find get index insert isalnum isalpha isdigit islower isspace isupper items
+    join keys ljust lower lstrip partition pop remove replace reverse rfind rjust rpartition rsplit rstrip setdefault split
+    splitlines startswith strip update upper values zfill bit_length title capitalize swapcase casefold center expandtabs
+    removeprefix removesuffix rindex isascii isdecimal isnumeric istitle isidentifier isprintable
+""".split())
+NO_ATTRIBUTES = set("""
+    items keys values pop update append clear extend insert remove reverse setdefault sort args encode decode hex fromhex
+    format format_map mro as_integer_ratio bit_count conjugate from_bytes is_integer to_bytes real imag numerator denominator
+""".split())
+# L17: names that nothing may have.
+NO_NAMES = set("""
+    register mro elements open input law version_info with_traceback add_note attrgetter breakpoint builtins compile copyright
+    credits delattr dir eval exec exit gc globals help id importlib license locals methodcaller os quit setattr type vars sys
+    typing enum dataclass overload contextmanager abstractmethod
+""".split())
+
 
 def bound_names(tree):
     """Return all names that a file binds in any way, with the nodes that bind them."""
@@ -117,6 +135,62 @@ class Language(unittest.TestCase):
             if isinstance(node.func, ast.Name) and node.func.id in ("any", "all", "min", "max", "sum", "sorted"):
                 with self.subTest(file=file, line=node.lineno):
                     self.assertFalse(any(isinstance(value, ast.GeneratorExp) for value in node.args))
+
+    def test_methods_are_known(self):
+        own = {node.name for _, node in self.each(ast.FunctionDef)}
+        for file, node in self.each(ast.Call):
+            if isinstance(node.func, ast.Attribute):
+                with self.subTest(file=file, line=node.lineno):
+                    self.assertIn(node.func.attr, METHODS | own)
+
+    def test_attributes_have_names_of_their_own(self):
+        methods = {node.name for _, node in self.each(ast.FunctionDef)}
+        for file, node in self.each(ast.Attribute):
+            if isinstance(node.ctx, ast.Store):
+                with self.subTest(file=file, line=node.lineno):
+                    self.assertNotIn(node.attr, NO_ATTRIBUTES | methods)
+        for file, node in self.each(ast.ClassDef):
+            for method in node.body:
+                if isinstance(method, ast.FunctionDef) and not method.name.startswith("__"):
+                    with self.subTest(file=file, line=method.lineno):
+                        for builtin in (str, int, list, dict, set, tuple, bytes):
+                            self.assertFalse(hasattr(builtin, method.name))
+
+    def test_no_barred_names(self):
+        for file in FILES:
+            for name, node in bound_names(ast.parse(file.read_text())):
+                with self.subTest(file.name, line=node.lineno):
+                    self.assertNotIn(name, NO_NAMES)
+                    self.assertFalse(name.startswith("__") and name != "__init__")
+
+    def test_module_level_names_have_plain_values(self):
+        plain = (ast.Constant, ast.Tuple, ast.List, ast.Dict, ast.Name, ast.Load, ast.UnaryOp, ast.USub, ast.BinOp, ast.Add)
+        for file in FILES:
+            for node in ast.parse(file.read_text()).body:
+                allowed = (ast.ImportFrom, ast.FunctionDef, ast.ClassDef, ast.Assign)
+                docstring = isinstance(node, ast.Expr) and isinstance(node.value, ast.Constant)
+                with self.subTest(file.name, line=node.lineno):
+                    self.assertTrue(docstring or isinstance(node, allowed))
+                    if isinstance(node, ast.Assign):
+                        self.assertTrue(all(isinstance(part, plain) for part in ast.walk(node.value)))
+
+    def test_only_own_errors_and_errors_of_keys_are_caught(self):
+        own = {node.name for file, node in self.each(ast.ClassDef) if file == "errors.py"}
+        for file, node in self.each(ast.ExceptHandler):
+            with self.subTest(file=file, line=node.lineno):
+                self.assertIn(node.type.id, own | {"KeyError", "ZeroDivisionError"})
+
+    def test_errors_are_created_where_they_are_raised(self):
+        for file, node in self.each(ast.Raise):
+            with self.subTest(file=file, line=node.lineno):
+                self.assertIsInstance(node.exc, ast.Call)
+                self.assertIsInstance(node.exc.func, ast.Name)
+
+    def test_no_docstring_is_missing(self):
+        for file, node in self.each((ast.FunctionDef, ast.ClassDef)):
+            if node.name != "__init__":
+                with self.subTest(file=file, line=node.lineno):
+                    self.assertTrue(ast.get_docstring(node))
 
     def test_statements(self):
         barred = (ast.Global, ast.AsyncFunctionDef, ast.Await, ast.AsyncFor, ast.AsyncWith)

@@ -1,4 +1,6 @@
-"""What the tests share: values of every kind, and how errors are asked for."""
+"""What the tests share: values of every kind, how errors are asked for, and time limits."""
+
+from time import perf_counter
 
 # None of these is a FRACTION, a POINT or ROW of numbers, a FORMULA, a NAME, or a FONT but the empty one.
 ANYTHING = (
@@ -23,3 +25,17 @@ def raised(test, kind, function, *arguments, **named):
         function(*arguments, **named)
     test.assertIs(type(caught.exception), kind)
     return caught.exception
+
+
+class Within:
+    """A "with" that fails where what is done in it takes longer than so many seconds."""
+
+    def __init__(self, test, seconds):
+        self.test, self.seconds = test, seconds
+
+    def __enter__(self):
+        self.start = perf_counter()
+
+    def __exit__(self, kind, value, trace):
+        if kind is None:
+            self.test.assertLess(perf_counter() - self.start, self.seconds)

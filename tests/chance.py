@@ -1,0 +1,115 @@
+"""FORMULAS, FONTS, SYSTEMS by chance; the same ones in each run."""
+
+from fractions import Fraction
+from math import gcd
+from random import Random
+
+from everyfont.formulas import words_of
+
+LETTERS = ("a", "b", "cd", "sum")
+WORDS = (
+    "sign", "row", "over", "root", "high", "low", "both", "under", "upper", "limits", "fence", "bar", "table")
+NO_BASES = ("row", "high", "low", "both")
+
+
+def some_formula(chance, depth, words=WORDS):
+    """Return a FORMULA at most so deep."""
+    word = chance.choice(words) if depth > 1 else "sign"
+    letters = chance.choice(LETTERS)
+    part = lambda own=WORDS: some_formula(chance, depth - 1, own)
+    base = lambda: part(tuple(own for own in WORDS if own not in NO_BASES))
+    return {
+        "sign": lambda: (word, letters),
+        "row": lambda: (word, *(part() for _ in range(chance.randint(1, 3)))),
+        "over": lambda: (word, part(), part()),
+        "high": lambda: (word, base(), part()),
+        "low": lambda: (word, base(), part()),
+        "both": lambda: (word, base(), part(), part()),
+        "under": lambda: (word, letters, part()),
+        "upper": lambda: (word, letters, part()),
+        "limits": lambda: (word, letters, part(), part()),
+        "table": lambda: (word, some_rows(part, chance.randint(1, 2), chance.randint(1, 2))),
+    }.get(word, lambda: (word, part()))()
+
+
+def some_rows(part, rows, columns):
+    """Return ROWS of a table."""
+    return tuple(tuple(part() for _ in range(columns)) for _ in range(rows))
+
+
+def some_formulas(many, seed):
+    """Return up to so many pairs of a FORMULA and what made it by chance."""
+    chance = Random(seed)
+    for _ in range(many):
+        formula = some_formula(chance, chance.randint(1, 6))
+        if words_of(formula) <= 60:
+            yield formula, chance
+
+
+def as_fraction(number):
+    """Return the FRACTION of a number of Python's."""
+    number = Fraction(number)
+    return (number.numerator, number.denominator)
+
+
+def some_font(chance, names, lawful=True):
+    """Return a FONT with these NAMES."""
+    low = 1 if lawful else -9
+    return tuple(
+        (name, as_fraction(Fraction(
+            chance.randint(0 if lawful and name[0] in ("deep", "space") else low, 9), chance.randint(1, 4))))
+        for name in sorted(names))
+
+
+def lowest_row(integers):
+    """Return the ROW or POINT of integers, the last one from 1."""
+    shared = gcd(*integers)
+    return tuple(integer // shared for integer in integers)
+
+
+def some_row(chance, count, most=3, constant=3):
+    """Return a ROW of count numbers."""
+    integers = [chance.randint(-most, most) for _ in range(count)]
+    return lowest_row(integers + [chance.randint(-constant, constant), chance.randint(1, 3)])
+
+
+def some_system(chance, count, pairs, words=("ge", "gt", "eq"), most=3, constant=3):
+    """Return a SYSTEM."""
+    return tuple((chance.choice(words), some_row(chance, count, most, constant)) for _ in range(pairs))
+
+
+def values_times(rows, integers):
+    """Return the ROW of rows times integers, as a list of integers without its bottom, and that bottom."""
+    bottom = 1
+    for row in rows:
+        bottom *= row[-1]
+    total = [0] * (len(rows[0]) - 1)
+    for row, integer in zip(rows, integers):
+        total = [own + integer * (bottom // row[-1]) * top for own, top in zip(total, row[:-1])]
+    return total, bottom
+
+
+def system_at(chance, count, pairs, point, words=("ge", "gt", "eq"), most=9):
+    """Return a SYSTEM that holds at a POINT of integers, some of its "ge" pairs just so."""
+    system = []
+    for number in range(pairs):
+        word = chance.choice(words)
+        # More "eq" pairs than a third of the unknowns would leave little to find.
+        if word == "eq" and sum(own == "eq" for own, _ in system) > count // 3:
+            word = "ge"
+        slopes = [chance.randint(-most, most) if chance.random() < 0.7 else 0 for _ in range(count)]
+        spare = {"eq": 0, "ge": chance.randint(0, 2 * most), "gt": chance.randint(1, 2 * most)}[word]
+        constant = spare - sum(slope * top for slope, top in zip(slopes, point))
+        system.append((word, lowest_row(slopes + [constant, 1 + number % 3])))
+    return tuple(system)
+
+
+def system_nowhere(chance, count, pairs, used, most=9):
+    """Return a SYSTEM that holds nowhere, by one more pair that so many others deny together."""
+    point = [chance.randint(-3, 3) for _ in range(count)]
+    system = system_at(chance, count, pairs - 1, point, ("ge", "gt"), most)
+    total, bottom = values_times([row for _, row in system[:used]], [chance.randint(1, 3) for _ in range(used)])
+    # The others add up to total; less than 0 it cannot be.
+    denied = lowest_row([-top for top in total[:-1]] + [-total[-1] - 1, bottom])
+    place = chance.randrange(pairs)
+    return system[:place] + (("ge", denied),) + system[place:]
