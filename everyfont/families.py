@@ -3,7 +3,7 @@
 from everyfont.errors import NotFamily, NotFont
 from everyfont.fonts import ZERO_WORDS, check_font, is_lawful, is_name, needed, put_font
 from everyfont.points import check_point, numbers_of, point_of
-from everyfont.rows import unit_row
+from everyfont.rows import constant_row, unit_row
 from everyfont.systems import check_pairs, first_false
 
 MOST_UNKNOWNS = 12
@@ -49,6 +49,15 @@ def family_pairs(family):
     """Return the pairs of its SYSTEM and the lawful pair of each unknown."""
     names, _, system = family
     return system + tuple([lawful_pair(names, number) for number in range(len(names))])
+
+
+def name_rows(family, size):
+    """Return by the NAMES of a FAMILY their ROWS of size numbers, the first of which are the unknowns."""
+    names, fixed, _ = family
+    rows = {name: unit_row(size, number) for number, name in enumerate(names)}
+    for name, number in fixed:
+        rows[name] = constant_row(size, number)
+    return rows
 
 
 def family_font(family, point):

@@ -64,6 +64,11 @@ def unit_row(size, number):
     return (0,) * number + (1,) + (0,) * (size - number) + (1,)
 
 
+def constant_row(size, number):
+    """Return the ROW of size numbers whose value is a FRACTION."""
+    return (0,) * size + number
+
+
 def weighted_row(size, rows, weights):
     """Return the ROW of size numbers whose value is the sum of those of rows times FRACTIONS."""
     used = [(row, weight) for row, weight in zip(rows, weights) if weight[0] != 0]

@@ -214,6 +214,14 @@ class Table:
                     best = (gain, thing)
         return None if best is None else best[1]
 
+    def take_pair(self, word, row):
+        """Take one more pair, behind all others; then solve brings it to where it holds, too."""
+        told = self.told(row)
+        if word == "gt":
+            told[-1] -= self.bottom
+        self.rows[self.count + len(self.fixed)] = told
+        self.fixed.append(word == "eq")
+
     def deny(self, number, sign):
         """Put the denial ("gt", ROW times sign) in the place of a pair; that of "gt" is ("ge", ROW times sign)."""
         thing = self.count + number

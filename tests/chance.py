@@ -1,10 +1,11 @@
-"""FORMULAS, FONTS, SYSTEMS by chance; the same ones in each run."""
+"""FORMULAS, FONTS, SYSTEMS, FAMILIES, CLAIMS by chance; the same ones in each run."""
 
 from fractions import Fraction
 from math import gcd
 from random import Random
 
-from everyfont.formulas import words_of
+from everyfont.fonts import needed
+from everyfont.formulas import paths_of, words_of
 
 LETTERS = ("a", "b", "cd", "sum")
 WORDS = (
@@ -113,3 +114,35 @@ def system_nowhere(chance, count, pairs, used, most=9):
     denied = lowest_row([-top for top in total[:-1]] + [-total[-1] - 1, bottom])
     place = chance.randrange(pairs)
     return system[:place] + (("ge", denied),) + system[place:]
+
+
+def some_family(chance, formula, pairs, most=12):
+    """Return a FAMILY that serves a FORMULA, with up to most unknowns, so many pairs, and inner fonts."""
+    names = list(needed(formula))
+    unknowns = tuple(sorted(chance.sample(names, chance.randint(0, min(len(names), most)))))
+    point = [chance.randint(1, 9) for _ in unknowns]
+    system = []
+    for _ in range(pairs):
+        slopes = [chance.randint(-3, 3) for _ in unknowns]
+        constant = chance.randint(1, 20) - sum(slope * top for slope, top in zip(slopes, point))
+        system.append((chance.choice(("ge", "gt")), lowest_row(slopes + [constant, 1])))
+    return (unknowns, some_font(chance, [name for name in names if name not in unknowns]), tuple(system))
+
+
+def some_sum(chance, formula):
+    """Return a SUM of a CLAIM on a FORMULA."""
+    paths, names = paths_of(formula), needed(formula)
+    places = ("left", "base", "right", "top", "bottom")
+    pairs = []
+    for _ in range(chance.randint(1, 3)):
+        thing = chance.choice([(chance.choice(paths), chance.choice(places))] * 7 + [chance.choice(names)] * 2 + [None])
+        pairs.append((thing, as_fraction(Fraction(chance.choice((-2, -1, -1, 0, 1, 1, 2)), chance.randint(1, 2)))))
+    return tuple(pairs)
+
+
+def some_claim(chance, formula, depth):
+    """Return a CLAIM on a FORMULA at most so deep."""
+    word = chance.choice(("is", "is", "not", "and", "or")) if depth > 1 else "is"
+    if word == "is":
+        return (word, chance.choice(("lt", "le", "eq", "ne", "ge", "gt")), some_sum(chance, formula))
+    return (word, *(some_claim(chance, formula, depth - 1) for _ in range(1 if word == "not" else chance.randint(0, 3))))

@@ -41,6 +41,37 @@ PARAMETERS = {
         "greatest": "count system row", "least": "count system row", "greatest_paper": "count system row",
         "check_greatest": "count system row paper", "range_of": "count system row",
     },
+    "covers": {
+        "uncovered": "count system systems", "cover_paper": "count system systems",
+        "check_cover": "count system systems paper",
+    },
+    "tops": {
+        "check_top": "count value", "top_value": "top point", "top_rows_at": "top point", "top_added": "one other",
+        "top_joined": "one other", "top_times": "top value", "top_moved": "top row",
+    },
+    "counting": {"counts_at": "count system top row", "counting_rows": "count system top"},
+    "expressions": {"name_row": "family name", "box_tops": "family formula", "part_tops": "family formula"},
+    "never": {
+        "never_more": "count system one other", "never_paper": "count system one other",
+        "check_never": "count system one other paper",
+    },
+    "alike": {
+        "are_alike": "family formula other", "parting_font": "family formula other",
+        "check_parting": "family formula other value",
+    },
+    "steps": {"steps_of": "formula", "numbers_of_part": "formula path", "step_values": "formula font"},
+    "spans": {"step_bounds": "formula family", "open_steps": "formula family"},
+    "claims": {
+        "check_claim": "formula value", "is_so": "formula font claim", "broken": "claim", "fits": "width",
+        "apart": "path other",
+    },
+    "trees": {
+        "leaf_rows": "formula family splits case", "check_tree": "formula family claim tree", "tree_leaves": "tree",
+        "tree_splits": "tree",
+    },
+    "prover": {"judge": "formula family claim", "check_judged": "formula family claim value"},
+    "plains": {"plain": "formula", "is_plain": "formula", "table_path": "formula"},
+    "clear": {"clear_font": "names"},
 }
 
 
