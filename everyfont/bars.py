@@ -1,10 +1,9 @@
 """BARS: weights that show that a SYSTEM holds nowhere, and what is so wherever it holds."""
 
+from everyfont.numbers import MINUS_ONE
 from everyfont.rows import check_row, row_times, weighted_row
 from everyfont.simplex import Table, bar_of
 from everyfont.systems import are_signed, check_system, is_strict, is_weights
-
-OPPOSITE = (-1, 1)
 
 
 def is_bar_of(count, system, weights):
@@ -42,7 +41,7 @@ def implied(count, system, row):
     """Return whether the value of any value as ROW is at least 0 wherever a SYSTEM holds."""
     check_system(count, system)
     check_row(count, row)
-    return not holds_somewhere(count, system + (("gt", row_times(row, OPPOSITE)),))
+    return not holds_somewhere(count, system + (("gt", row_times(row, MINUS_ONE)),))
 
 
 def needless(count, system):

@@ -1,9 +1,9 @@
 """The greatest and the least value of a ROW where a SYSTEM holds, and papers that show it."""
 
-from everyfont.bars import OPPOSITE, is_bar_of
+from everyfont.bars import is_bar_of
 from everyfont.errors import Empty, NotPaper
 from everyfont.formulas import word_of
-from everyfont.numbers import is_int, opposite
+from everyfont.numbers import MINUS_ONE, is_int, opposite
 from everyfont.points import is_point
 from everyfont.rows import check_row, row_added, row_times, row_value, weighted_row
 from everyfont.simplex import GOAL, Table, bar_of
@@ -64,7 +64,7 @@ def least(count, system, row):
     """Return how small any value as ROW can be where a SYSTEM holds."""
     check_system(count, system)
     check_row(count, row)
-    return turned_over(greatest(count, system, row_times(row, OPPOSITE)))
+    return turned_over(greatest(count, system, row_times(row, MINUS_ONE)))
 
 
 def greatest_paper(count, system, row):
@@ -145,7 +145,7 @@ def range_of(count, system, row):
     table = Table(count, system)
     if table.solve() is not None:
         raise Empty()
-    below = row_times(row, OPPOSITE)
+    below = row_times(row, MINUS_ONE)
     low = turned_over(shown(climbed(table.twin(), system, below), below))
     high = shown(climbed(table, system, row), row)
     return (bound_of(low), bound_of(high))

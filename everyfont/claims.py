@@ -3,13 +3,10 @@
 from everyfont.errors import NotClaim, TooGreat
 from everyfont.fonts import is_name, needed, numbers_for
 from everyfont.formulas import MOST_DEPTH, MOST_WORDS, paths_of, word_of
-from everyfont.numbers import is_fraction, is_int, opposite, sign_of, times
+from everyfont.numbers import MINUS_ONE, ONE, is_fraction, is_int, opposite, sign_of, times
 from everyfont.steps import Written, sum_value, values_of
 
 MOST_CONJUNCTIONS = 64
-
-ONE = (1, 1)
-LESS = (-1, 1)
 
 PLACE_WORDS = ("left", "base", "right", "top", "bottom")
 
@@ -98,7 +95,7 @@ def place_pairs(written, place):
     if word == "top":
         return [(part.base, ONE), (part.high, ONE)]
     if word == "bottom":
-        return [(part.base, ONE), (part.deep, LESS)]
+        return [(part.base, ONE), (part.deep, MINUS_ONE)]
     return [(part.base, ONE)]
 
 
@@ -201,7 +198,7 @@ def fits(width):
 
 def is_at_most(place, other):
     """Return the CLAIM that a PLACE is at most another one."""
-    return ("is", "le", ((place, ONE), (other, LESS)))
+    return ("is", "le", ((place, ONE), (other, MINUS_ONE)))
 
 
 def apart(path, other):

@@ -1,9 +1,9 @@
 """COVERS: whether the sets of some SYSTEMS together contain that of another one."""
 
-from everyfont.bars import OPPOSITE, is_bar_of
+from everyfont.bars import is_bar_of
 from everyfont.errors import Empty, NotPaper, TooGreat
 from everyfont.formulas import word_of
-from everyfont.numbers import ZERO, added
+from everyfont.numbers import MINUS_ONE, ZERO, added
 from everyfont.rows import row_times
 from everyfont.simplex import Table, bar_of
 from everyfont.systems import check_system, first_false
@@ -24,7 +24,7 @@ def check_systems(count, system, systems):
 def denials_of(pair):
     """Return the list of the denials of a pair."""
     word, row = pair
-    below = row_times(row, OPPOSITE)
+    below = row_times(row, MINUS_ONE)
     if word == "eq":
         return [("gt", row), ("gt", below)]
     return [("gt" if word == "ge" else "ge", below)]

@@ -4,9 +4,9 @@ They are told by *shares*: FRACTIONS by their columns, which are 0 where nothing
 columns from 0, the STEPS those behind, and None is the constant's.
 """
 
-from everyfont.claims import LESS, ONE, unfolded
+from everyfont.claims import unfolded
 from everyfont.families import family_pairs
-from everyfont.numbers import ZERO, added, is_fraction, times
+from everyfont.numbers import MINUS_ONE, ONE, ZERO, added, is_fraction, times
 from everyfont.points import shared_bottom
 from everyfont.rows import coefficients_of
 
@@ -63,18 +63,18 @@ class Leaves:
         own = self.first + step
         if word == "sum":
             shares = self.shares_of_sum(things)
-            shares[own] = LESS
+            shares[own] = MINUS_ONE
             return [("eq", shares)]
         columns = [self.first + number for number in things]
         if member is None:
             member = self.spans.settled[step]
         if member is None:
-            rows = [("ge", {own: ONE, column: LESS}) for column in columns]
+            rows = [("ge", {own: ONE, column: MINUS_ONE}) for column in columns]
             high = self.spans.ranges[step][1]
-            return rows if high is None else rows + [("ge", {None: high, own: LESS})]
-        rows = [("eq", {columns[member]: ONE, own: LESS})]
+            return rows if high is None else rows + [("ge", {None: high, own: MINUS_ONE})]
+        rows = [("eq", {columns[member]: ONE, own: MINUS_ONE})]
         for column in columns[:member] + columns[member + 1:]:
-            rows.append(("ge", {columns[member]: ONE, column: LESS}))
+            rows.append(("ge", {columns[member]: ONE, column: MINUS_ONE}))
         return rows
 
     def rows_of_case(self, case):

@@ -4,14 +4,12 @@ from everyfont.above import climb_above, tops_of
 from everyfont.bars import is_bar_of
 from everyfont.errors import NotPaper
 from everyfont.formulas import word_of
-from everyfont.numbers import ZERO, compared, lowest, total
+from everyfont.numbers import ONE, ZERO, compared, lowest, total
 from everyfont.points import is_point
 from everyfont.rows import row_minus, weighted_row
 from everyfont.simplex import Table, bar_of
 from everyfont.systems import are_signed, first_false, is_weights
 from everyfont.tops import top_value
-
-ONE = (1, 1)
 
 
 def never_more(count, system, one, other):

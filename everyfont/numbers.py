@@ -5,6 +5,8 @@ from math import gcd
 from everyfont.errors import NotNumber
 
 ZERO = (0, 1)
+ONE = (1, 1)
+MINUS_ONE = (-1, 1)
 
 
 def is_int(value):

@@ -1,7 +1,7 @@
 """ROWS: coefficients, a constant and, the last one, their common bottom."""
 
 from everyfont.errors import NotRow
-from everyfont.numbers import lowest, sign_of
+from everyfont.numbers import MINUS_ONE, lowest, sign_of
 from everyfont.points import fault_in_integers, numbers_of, point_of, shared_bottom, without_divisor
 
 
@@ -51,7 +51,7 @@ def row_added(one, other):
 
 def row_minus(one, other):
     """Return the ROW whose value is the first one less the second."""
-    return row_added(one, row_times(other, (-1, 1)))
+    return row_added(one, row_times(other, MINUS_ONE))
 
 
 def row_times(row, value):

@@ -6,10 +6,10 @@ other STEPS being sums of these. So a Table is kept of these pairs alone; its we
 
 from math import lcm
 
-from everyfont.claims import ONE, unfolded
+from everyfont.claims import unfolded
 from everyfont.families import family_pairs, name_rows
 from everyfont.leaves import Leaves, put_shares
-from everyfont.numbers import ZERO, added, greatest_of
+from everyfont.numbers import ONE, ZERO, added, greatest_of
 from everyfont.points import shared_divisor, without_divisor
 from everyfont.rows import constant_row, row_minus, row_value, unit_row, weighted_row
 from everyfont.simplex import Table

@@ -2,7 +2,7 @@
 
 from everyfont.best import climbed, shown
 from everyfont.families import family_pairs, need_served
-from everyfont.numbers import ZERO, added, compared, greatest_of, opposite, times
+from everyfont.numbers import MINUS_ONE, ZERO, added, compared, greatest_of, opposite, times
 from everyfont.rows import row_times, unit_row
 from everyfont.simplex import Table
 from everyfont.steps import Written
@@ -33,7 +33,7 @@ def greatest_in(table, pairs, row):
 
 def least_in(table, pairs, row):
     """Return likewise what least tells."""
-    found = greatest_in(table, pairs, row_times(row, (-1, 1)))
+    found = greatest_in(table, pairs, row_times(row, MINUS_ONE))
     return None if found is None else opposite(found)
 
 

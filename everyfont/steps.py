@@ -2,9 +2,8 @@
 
 from everyfont.fonts import needed, numbers_for
 from everyfont.formulas import found_at, level_below, paths_of, thing_at, ways_down
-from everyfont.numbers import ZERO, added, greatest_of, times, total
+from everyfont.numbers import MINUS_ONE, ONE, ZERO, added, greatest_of, times, total
 
-ONE = (1, 1)
 HALF = (1, 2)
 
 
@@ -20,7 +19,7 @@ def plus(things):
 
 def less(things):
     """Return the pairs that take THINGS away."""
-    return each(things, (-1, 1))
+    return each(things, MINUS_ONE)
 
 
 def so_often(number, things):
