@@ -126,6 +126,10 @@ class Papers(unittest.TestCase):
             fails(means, weights)
         for others in ((NONE,) * 4, (NONE, (1, 2), NONE, NONE), (NONE, (2, 1), NONE, NONE), (ALL, ALL, NONE, NONE), (NONE, (-1, 1), NONE, NONE)):
             fails((ALL,), others)
+        # What is left of 4 - y, and of 4 - x - y.
+        fails((ALL,), (NONE,) * 4, (Y,))
+        fails((ALL,), (NONE,) * 4, ((1, 1, 0, 1),))
+        fails((ALL,), weights, ((1, 1, 0, 1),))
         fails((ALL,), (NONE,) * 4, (FOUR,), (THREE,))
         fails((ALL,), (NONE,) * 4, (FOUR,), ((0, 0, 399, 100),))
         # MEAN's and WEIGHTS that would do but are negative.
