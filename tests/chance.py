@@ -1,9 +1,10 @@
-"""FORMULAS, FONTS, SYSTEMS, FAMILIES, CLAIMS by chance; the same ones in each run."""
+"""FORMULAS, FONTS, SYSTEMS, FAMILIES, CLAIMS by chance, the same ones in each run; and FAMILIES that are told shortly."""
 
 from fractions import Fraction
 from math import gcd
 from random import Random
 
+from everyfont.families import check_family
 from everyfont.fonts import needed
 from everyfont.formulas import paths_of, words_of
 
@@ -146,3 +147,9 @@ def some_claim(chance, formula, depth):
     if word == "is":
         return (word, chance.choice(("lt", "le", "eq", "ne", "ge", "gt")), some_sum(chance, formula))
     return (word, *(some_claim(chance, formula, depth - 1) for _ in range(1 if word == "not" else chance.randint(0, 3))))
+
+
+def family_for(formula, *names, system=(), **numbers):
+    """Return the FAMILY of a FORMULA with these unknowns; the other NAMES have 1, or what is told by their first words."""
+    fixed = tuple((name, as_fraction(Fraction(numbers.get(name[0], 1)))) for name in needed(formula) if name not in names)
+    return check_family((tuple(sorted(names)), fixed, system))

@@ -1,13 +1,13 @@
 import unittest
 from random import Random
 
-from chance import as_fraction, some_family, some_font, some_formulas
+from chance import as_fraction, family_for, some_family, some_font, some_formulas
 from everyfont.bars import point_or_bar
 from everyfont.boxes import box_of
 from everyfont.counting import counts_at
 from everyfont.errors import Empty, NotFont, TooGreat
 from everyfont.expressions import box_tops, name_row, part_tops
-from everyfont.families import check_family, family_font, family_pairs
+from everyfont.families import family_font, family_pairs
 from everyfont.fonts import needed
 from everyfont.formulas import check_formula, paths_of
 from everyfont.steps import numbers_of_part, step_values
@@ -18,12 +18,6 @@ from wrong import Within, raised
 
 A, B, C, Z = ("sign", "a"), ("sign", "b"), ("sign", "c"), ("sign", "z")
 WIDE_A, WIDE_B, HIGH_A, HIGH_B, DEEP_A = ("wide", "a", 0), ("wide", "b", 0), ("high", "a", 0), ("high", "b", 0), ("deep", "a", 0)
-
-
-def family_of(formula, *names, system=(), **numbers):
-    """Return the FAMILY of a FORMULA with these unknowns; the other NAMES have 1, or what is told by their first words."""
-    fixed = tuple((name, as_fraction(Fraction(numbers.get(name[0], 1)))) for name in needed(formula) if name not in names)
-    return check_family((tuple(sorted(names)), fixed, system))
 
 
 def constant(number, count=2):
@@ -59,81 +53,81 @@ class ByHand(unittest.TestCase):
             self.assertIs(check_top(len(family[0]), top), top)
 
     def test_sign(self):
-        self.is_told(A, family_of(A, DEEP_A, WIDE_A, high=3), ((0, 1, 0, 1),), 3, ((1, 0, 0, 1),))
-        self.is_told(A, family_of(A, wide="7/2", deep=0), "7/2", 1, 0)
+        self.is_told(A, family_for(A, DEEP_A, WIDE_A, high=3), ((0, 1, 0, 1),), 3, ((1, 0, 0, 1),))
+        self.is_told(A, family_for(A, wide="7/2", deep=0), "7/2", 1, 0)
 
     def test_row(self):
         formula = ("row", A, B, A)
-        self.is_told(formula, family_of(formula, WIDE_A, WIDE_B, space="1/4"), ((4, 2, 1, 2),), 1, 1)
-        self.is_told(formula, family_of(formula, HIGH_A, HIGH_B), 5, ((0, 1, 0, 1), (1, 0, 0, 1)), 1)
+        self.is_told(formula, family_for(formula, WIDE_A, WIDE_B, space="1/4"), ((4, 2, 1, 2),), 1, 1)
+        self.is_told(formula, family_for(formula, HIGH_A, HIGH_B), 5, ((0, 1, 0, 1), (1, 0, 0, 1)), 1)
         # high a is more than 1, high b less: the greater one is known, b and the constant never count.
         system = (("gt", (1, 0, -1, 1)), ("gt", (0, -1, 1, 1)))
-        self.is_told(formula, family_of(formula, HIGH_A, HIGH_B, system=system), 5, ((1, 0, 0, 1),), 1)
-        self.is_told(formula, family_of(formula, HIGH_B, high=2), 5, ((0, 2, 1), (1, 0, 1)), 1)
+        self.is_told(formula, family_for(formula, HIGH_A, HIGH_B, system=system), 5, ((1, 0, 0, 1),), 1)
+        self.is_told(formula, family_for(formula, HIGH_B, high=2), 5, ((0, 2, 1), (1, 0, 1)), 1)
         one = ("row", A)
-        self.is_told(one, family_of(one, WIDE_A, DEEP_A), ((0, 1, 0, 1),), 1, ((1, 0, 0, 1),))
+        self.is_told(one, family_for(one, WIDE_A, DEEP_A), ((0, 1, 0, 1),), 1, ((1, 0, 0, 1),))
 
     def test_over(self):
         formula = ("over", A, B)
         wide = (("wide", "a", 1), ("wide", "b", 1))
         numbers = dict(axis="1/2", deep="1/4", gap="1/4", rule="1/8", high=2)
-        self.is_told(formula, family_of(formula, *wide, **numbers), ((0, 2, 1, 2), (2, 0, 1, 2)), "25/8", 2)
+        self.is_told(formula, family_for(formula, *wide, **numbers), ((0, 2, 1, 2), (2, 0, 1, 2)), "25/8", 2)
         system = (("ge", (-1, 1, 0, 1)),)
-        self.is_told(formula, family_of(formula, *wide, system=system, **numbers), ((0, 2, 1, 2),), "25/8", 2)
+        self.is_told(formula, family_for(formula, *wide, system=system, **numbers), ((0, 2, 1, 2),), "25/8", 2)
         # rise or axis + rule + gap + deep a = 9/8 + 2; fall or gap + high b - axis = 7/4, and 1/4.
         self.is_told(
-            formula, family_of(formula, ("fall", 0), ("rise", 0), **numbers), "3/2", ((0, 0, 25, 8), (0, 1, 2, 1)),
+            formula, family_for(formula, ("fall", 0), ("rise", 0), **numbers), "3/2", ((0, 0, 25, 8), (0, 1, 2, 1)),
             ((0, 0, 2, 1), (4, 0, 1, 4)))
         # axis is unknown: 3 (axis + ..) is not less than 1 only where it is great; below, it is taken away.
         self.is_told(
-            formula, family_of(formula, ("axis", 0), gap=1, rule=1, deep=1, high=1), 3, ((1, 4, 1),), ((-1, 3, 1), (0, 2, 1)))
+            formula, family_for(formula, ("axis", 0), gap=1, rule=1, deep=1, high=1), 3, ((1, 4, 1),), ((-1, 3, 1), (0, 2, 1)))
 
     def test_root_fence_bar(self):
         names = (("gap", 0), ("rule", 0))
         for formula, wide, high, deep in (
                 (("root", A), (2, 1, 1, 1), (1, 1, 1, 1), (1, 0, 1, 1)), (("fence", A), (2, 2, 1, 1), (1, 0, 1, 1), (1, 0, 1, 1)),
                 (("bar", A), (0, 0, 1, 1), (1, 1, 1, 1), (0, 0, 1, 1))):
-            self.is_told(formula, family_of(formula, *names), (wide,), (high,), (deep,))
+            self.is_told(formula, family_for(formula, *names), (wide,), (high,), (deep,))
 
     def test_scripts(self):
         high, low, both = ("high", A, B), ("low", A, B), ("both", A, B, C)
         # U is the greater of rise and 3 - rise; then the greater of 3 and U + 1; of 1 and 1 - rise the latter is less.
-        self.is_told(high, family_of(high, ("rise", 0), high=3), 2, ((-1, 6, 1), (1, 3, 1)), 1)
-        self.is_told(high, family_of(high, ("rise", 0), ("deep", "b", 1), high=3), 2, ((0, -1, 6, 1), (0, 1, 3, 1)), (
+        self.is_told(high, family_for(high, ("rise", 0), high=3), 2, ((-1, 6, 1), (1, 3, 1)), 1)
+        self.is_told(high, family_for(high, ("rise", 0), ("deep", "b", 1), high=3), 2, ((0, -1, 6, 1), (0, 1, 3, 1)), (
             (0, 0, 1, 1), (1, -1, 0, 1)))
-        self.is_told(low, family_of(low, ("fall", 0)), 2, 1, ((0, 2, 1), (1, 1, 1)))
-        self.is_told(low, family_of(low, ("fall", 0), ("high", "b", 1)), 2, ((-1, 1, 0, 1), (0, 0, 1, 1)), (
+        self.is_told(low, family_for(low, ("fall", 0)), 2, 1, ((0, 2, 1), (1, 1, 1)))
+        self.is_told(low, family_for(low, ("fall", 0), ("high", "b", 1)), 2, ((-1, 1, 0, 1), (0, 0, 1, 1)), (
             (0, 0, 2, 1), (1, 0, 1, 1)))
-        self.is_told(both, family_of(both, ("wide", "b", 1), ("wide", "c", 1), high=2), ((0, 1, 1, 1), (1, 0, 1, 1)), 3, 2)
-        self.is_told(both, family_of(both, ("rise", 0), ("fall", 0), high=3), 2, ((0, -1, 6, 1), (0, 1, 3, 1)), (
+        self.is_told(both, family_for(both, ("wide", "b", 1), ("wide", "c", 1), high=2), ((0, 1, 1, 1), (1, 0, 1, 1)), 3, 2)
+        self.is_told(both, family_for(both, ("rise", 0), ("fall", 0), high=3), 2, ((0, -1, 6, 1), (0, 1, 3, 1)), (
             (0, 0, 2, 1), (1, 0, 1, 1)))
 
     def test_limits(self):
         under, upper, limits = ("under", "s", A), ("upper", "s", A), ("limits", "s", A, B)
         wide = (("wide", "a", 1), ("wide", "s", 0))
         both = ((0, 1, 0, 1), (1, 0, 0, 1))
-        self.is_told(under, family_of(under, *wide), both, 1, 4)
-        self.is_told(under, family_of(under, ("fall", 0), ("gap", 0)), 1, 1, ((0, 1, 3, 1), (1, 0, 1, 1)))
-        self.is_told(upper, family_of(upper, *wide), both, 4, 1)
-        self.is_told(upper, family_of(upper, ("gap", 0), ("rise", 0)), 1, ((0, 1, 1, 1), (1, 0, 3, 1)), 1)
-        self.is_told(limits, family_of(limits, ("wide", "b", 1), *wide), ((0, 0, 1, 0, 1), (0, 1, 0, 0, 1), (1, 0, 0, 0, 1)), 4, 4)
-        self.is_told(limits, family_of(limits, ("fall", 0), ("gap", 0)), 1, ((0, 1, 3, 1),), ((0, 1, 3, 1), (1, 0, 1, 1)))
+        self.is_told(under, family_for(under, *wide), both, 1, 4)
+        self.is_told(under, family_for(under, ("fall", 0), ("gap", 0)), 1, 1, ((0, 1, 3, 1), (1, 0, 1, 1)))
+        self.is_told(upper, family_for(upper, *wide), both, 4, 1)
+        self.is_told(upper, family_for(upper, ("gap", 0), ("rise", 0)), 1, ((0, 1, 1, 1), (1, 0, 3, 1)), 1)
+        self.is_told(limits, family_for(limits, ("wide", "b", 1), *wide), ((0, 0, 1, 0, 1), (0, 1, 0, 0, 1), (1, 0, 0, 0, 1)), 4, 4)
+        self.is_told(limits, family_for(limits, ("fall", 0), ("gap", 0)), 1, ((0, 1, 3, 1),), ((0, 1, 3, 1), (1, 0, 1, 1)))
 
     def test_table(self):
         formula = ("table", ((A, B), (B, Z)))
         # Columns: a or b, b or z = 1; rows 1 + 1 each, and gap: T is 5.
         self.is_told(
-            formula, family_of(formula, WIDE_A, WIDE_B),
+            formula, family_for(formula, WIDE_A, WIDE_B),
             ((0, 1, 7, 1), (0, 2, 6, 1), (1, 0, 7, 1), (1, 1, 6, 1)), "7/2", "3/2")
-        self.is_told(formula, family_of(formula, ("axis", 0)), 8, ((2, 5, 2),), ((-2, 5, 2), (0, 0, 1)))
-        self.is_told(formula, family_of(formula, ("axis", 0), system=(("ge", (-1, 2, 1)),)), 8, ((2, 5, 2),), ((-2, 5, 2),))
-        self.is_told(formula, family_of(formula, ("gap", 0), ("space", 0)), ((3, 1, 4, 1),), ((1, 0, 6, 2),), ((1, 0, 2, 2),))
+        self.is_told(formula, family_for(formula, ("axis", 0)), 8, ((2, 5, 2),), ((-2, 5, 2), (0, 0, 1)))
+        self.is_told(formula, family_for(formula, ("axis", 0), system=(("ge", (-1, 2, 1)),)), 8, ((2, 5, 2),), ((-2, 5, 2),))
+        self.is_told(formula, family_for(formula, ("gap", 0), ("space", 0)), ((3, 1, 4, 1),), ((1, 0, 6, 2),), ((1, 0, 2, 2),))
 
     def test_formulas_within_formulas(self):
         # max(a, b) + max(a, b): sums of unlike ROWS, a + b, count nowhere.
         part = ("table", ((A,), (B,)))
         formula = ("row", part, part)
-        family = family_of(formula, WIDE_A, WIDE_B)
+        family = family_for(formula, WIDE_A, WIDE_B)
         self.is_told(formula, family, ((0, 2, 9, 1), (2, 0, 9, 1)), "7/2", "3/2")
         tops = dict(part_tops(family, formula))
         self.assertEqual(tops[(1,)], tops[(2,)])
@@ -142,7 +136,7 @@ class ByHand(unittest.TestCase):
         self.assertEqual([path for path, _ in part_tops(family, formula)], list(paths_of(formula)))
         # A part that stands twice, once at each level.
         formula = ("over", ("row", A, A), ("fence", A))
-        family = family_of(formula, ("wide", "a", 1), ("gap", 0))
+        family = family_for(formula, ("wide", "a", 1), ("gap", 0))
         self.is_told(formula, family, ((2, 1, 4, 1), (2, 2, 1, 1)), ((1, 0, 4, 1),), ((1, 0, 3, 1),))
 
     def test_families_without_unknowns(self):
@@ -175,7 +169,7 @@ class Wrong(unittest.TestCase):
                 (("eq", (1, -1, 0, 1)),), (("ge", (1, 0, -1, 1)), ("ge", (-1, 0, 1, 1))), (("gt", (-1, 0, 0, 1)),), (("gt", (0, 0, 0, 1)),),
                 (("eq", (0, 0, 3, 1)),)):
             for function in (box_tops, part_tops):
-                raised(self, Empty, function, family_of(formula, WIDE_A, WIDE_B, system=system), formula)
+                raised(self, Empty, function, family_for(formula, WIDE_A, WIDE_B, system=system), formula)
 
 
 class ManyRows(unittest.TestCase):
@@ -186,7 +180,7 @@ class ManyRows(unittest.TestCase):
 
     def family(self, formula, level=0, **named):
         unknowns = [name for name in needed(formula) if name[0] == "wide" and name[1] not in "zq"]
-        return family_of(formula, *unknowns, **named)
+        return family_for(formula, *unknowns, **named)
 
     def test_400_and_401_rows_of_a_greatest(self):
         # 2 * 2 * 2 * 2 * 5 * 5 sums, all of which count.
@@ -199,7 +193,7 @@ class ManyRows(unittest.TestCase):
         with Within(self, 20):
             self.assertEqual(raised(self, TooGreat, box_tops, self.family(formula), formula).most, 400)
         # The sign is less wide than all of them, but it counts for the 401st ROW.
-        family = family_of(formula, *self.family(formula)[0], wide="1/2")
+        family = family_for(formula, *self.family(formula)[0], wide="1/2")
         with Within(self, 20):
             self.assertEqual(raised(self, TooGreat, part_tops, family, formula).most, 400)
 

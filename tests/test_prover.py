@@ -2,7 +2,7 @@ import unittest
 from fractions import Fraction
 from random import Random
 
-from chance import as_fraction, some_claim, some_family, some_font, some_formulas
+from chance import as_fraction, family_for, some_claim, some_family, some_font, some_formulas
 from everyfont.claims import apart, broken, check_claim, fits, is_so
 from everyfont.errors import NotFont, NotPaper, TooGreat
 from everyfont.families import check_family, family_font, is_font_of
@@ -12,7 +12,7 @@ from everyfont.prover import check_judged, judge
 from everyfont.spans import open_steps
 from everyfont.trees import check_tree, tree_leaves, tree_splits
 from leaftold import Rows, is_tree
-from test_trees import BAR, BAR_A, BAR_B, FAMILY, HIGH_ENOUGH, LOW_ENOUGH, ROW, TREE, bar, family_for, told
+from test_trees import BAR, BAR_A, BAR_B, FAMILY, HIGH_ENOUGH, LOW_ENOUGH, ROW, TREE, bar, told
 from wrong import ANYTHING, Within, deep_tuple, raised
 
 A, B, C = ("sign", "a"), ("sign", "b"), ("sign", "c")

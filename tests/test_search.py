@@ -1,7 +1,7 @@
 import unittest
 from random import Random
 
-from chance import lowest_row, some_claim, some_family, some_formulas
+from chance import family_for, lowest_row, some_claim, some_family, some_formulas
 from everyfont.claims import broken, is_so
 from everyfont.errors import TooGreat
 from everyfont.families import family_font, is_font_of
@@ -11,7 +11,7 @@ from everyfont.prover import check_judged, judge
 from everyfont.search import Search
 from everyfont.spans import Spans
 from everyfont.trees import check_tree, tree_splits
-from test_trees import family_for, told
+from test_trees import told
 
 RIGHT = ((), "right")
 

@@ -2,10 +2,10 @@ import unittest
 from fractions import Fraction
 from random import Random
 
-from chance import as_fraction, some_family, some_font, some_formulas
+from chance import as_fraction, family_for, some_family, some_font, some_formulas
 from everyfont.best import range_of
 from everyfont.errors import NotFont
-from everyfont.families import check_family, family_pairs, is_font_of
+from everyfont.families import family_pairs, is_font_of
 from everyfont.fonts import needed
 from everyfont.formulas import check_formula
 from everyfont.spans import open_steps, step_bounds
@@ -15,12 +15,6 @@ from wrong import Within, raised
 A, B, C = ("sign", "a"), ("sign", "b"), ("sign", "c")
 WIDE_A, WIDE_B, HIGH_A, HIGH_B = ("wide", "a", 0), ("wide", "b", 0), ("high", "a", 0), ("high", "b", 0)
 GAP, SPACE = ("gap", 0), ("space", 0)
-
-
-def family_for(formula, *names, system=(), **numbers):
-    """Return the FAMILY of a FORMULA with these unknowns; the other NAMES have 1, or what is told by their first words."""
-    fixed = tuple((name, as_fraction(Fraction(numbers.get(name[0], 1)))) for name in needed(formula) if name not in names)
-    return check_family((tuple(sorted(names)), fixed, system))
 
 
 def bound(number):

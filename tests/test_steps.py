@@ -1,6 +1,5 @@
 import unittest
 from fractions import Fraction
-from random import Random
 
 from chance import as_fraction, some_font, some_formulas
 from everyfont.errors import NotFont, NotFormula

@@ -2,10 +2,9 @@ import unittest
 from fractions import Fraction
 from random import Random
 
-from chance import as_fraction, some_claim, some_family, some_formulas
+from chance import as_fraction, family_for, some_claim, some_family, some_formulas
 from everyfont.claims import broken, check_claim
 from everyfont.errors import NotFont, NotPaper, TooGreat
-from everyfont.families import check_family
 from everyfont.fonts import needed
 from everyfont.formulas import check_formula
 from everyfont.prover import judge
@@ -21,12 +20,6 @@ ROW = ("row", A, B)
 HIGH_A, HIGH_B = ("high", "a", 0), ("high", "b", 0)
 ONE, NONE, LESS = (1, 1), (0, 1), (-1, 1)
 TOP, BASE = ((), "top"), ((), "base")
-
-
-def family_for(formula, *names, system=(), **numbers):
-    """Return the FAMILY of a FORMULA with these unknowns; the other NAMES have 1, or what is told by their first words."""
-    fixed = tuple((name, as_fraction(Fraction(numbers.get(name[0], 1)))) for name in needed(formula) if name not in names)
-    return check_family((tuple(sorted(names)), fixed, system))
 
 
 # The STEPS of ROW: 0 to 2 of a, 3 to 5 of b, 6 to 8 its own, 7 being the greatest of 1 and 4, 8 that of 2 and 5;
