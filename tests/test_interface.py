@@ -72,6 +72,20 @@ PARAMETERS = {
     "prover": {"judge": "formula family claim", "check_judged": "formula family claim value"},
     "plains": {"plain": "formula", "is_plain": "formula", "table_path": "formula"},
     "clear": {"clear_font": "names"},
+    "reading": {"read_picture": "names items"},
+    "pictures": {
+        "is_one_picture": "formula other", "picture_font": "formula other", "check_picture_font": "formula other font"},
+    "sizes": {
+        "greatest_size": "family formula word", "least_size": "family formula word", "least_room": "family formula",
+        "size_paper": "family formula word side", "check_size": "family formula word side value",
+    },
+    "leads": {"greatest_lead": "family formula other word", "leading_font": "family formula other word"},
+    "slopes": {"slopes": "family formula word", "steepest": "family formula word"},
+    "lines": {
+        "line_wide": "formula font first last", "breaking_badness": "formula font room breaking",
+        "least_badness": "formula font room breaks", "best_breaking": "formula font room breaks",
+        "lines_paper": "formula font room breaks", "check_lines": "formula font room breaks value",
+    },
 }
 
 

@@ -148,7 +148,7 @@ class Language(unittest.TestCase):
         for file, node in self.each(ast.Attribute):
             if isinstance(node.ctx, ast.Store):
                 with self.subTest(file=file, line=node.lineno):
-                    self.assertNotIn(node.attr, NO_ATTRIBUTES | methods)
+                    self.assertFalse(node.attr in NO_ATTRIBUTES | methods, node.attr)
         for file, node in self.each(ast.ClassDef):
             for method in node.body:
                 if isinstance(method, ast.FunctionDef) and not method.name.startswith("__"):
