@@ -18,7 +18,11 @@ OPPOSITES = {"lt": "ge", "le": "gt", "eq": "ne", "ne": "eq", "ge": "lt", "gt": "
 def check_claim(formula, value):
     """Return any value that is a CLAIM on a FORMULA."""
     # A NAME is never the same as a PATH: so both may be looked up in one dict.
-    known = {thing: True for thing in paths_of(formula) + needed(formula)}
+    return check_claim_with({thing: True for thing in paths_of(formula) + needed(formula)}, value)
+
+
+def check_claim_with(known, value):
+    """Return any value that is a CLAIM with PATHS and NAMES that are known, with any ones where that is None."""
     path = claim_fault(known, value, ())
     if path is None and (claim_words(value) > MOST_WORDS or claim_depth(value) > MOST_DEPTH):
         path = ()
@@ -60,13 +64,18 @@ def is_thing(known, value):
     if not isinstance(value, tuple) or len(value) == 0:
         return False
     if isinstance(value[0], tuple):
-        return len(value) == 2 and is_path(value[0]) and value[0] in known and value[1] in PLACE_WORDS
-    return is_name(value) and value in known
+        return len(value) == 2 and is_path(value[0]) and is_known(known, value[0]) and value[1] in PLACE_WORDS
+    return is_name(value) and is_known(known, value)
 
 
 def is_path(value):
-    """Return whether any value is a tuple of integers."""
-    return isinstance(value, tuple) and all([is_int(place) for place in value])
+    """Return whether any value is a tuple of integers from 0 to 60."""
+    return isinstance(value, tuple) and all([is_int(place) and 0 <= place <= MOST_WORDS for place in value])
+
+
+def is_known(known, thing):
+    """Return whether a PATH or NAME is one of those that are known; where None is told, all are."""
+    return known is None or thing in known
 
 
 def claim_words(claim):

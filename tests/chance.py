@@ -153,3 +153,17 @@ def family_for(formula, *names, system=(), **numbers):
     """Return the FAMILY of a FORMULA with these unknowns; the other NAMES have 1, or what is told by their first words."""
     fixed = tuple((name, as_fraction(Fraction(numbers.get(name[0], 1)))) for name in needed(formula) if name not in names)
     return check_family((tuple(sorted(names)), fixed, system))
+
+
+def some_grid(chance, most_cells=8, formula=None):
+    """Return a GRID of cells that are put where there is room."""
+    columns, rows = chance.randint(1, 5), chance.randint(1, 5)
+    taken, cells = set(), []
+    for _ in range(chance.randint(0, most_cells)):
+        first, top = chance.randrange(columns), chance.randrange(rows)
+        last, bottom = chance.randint(first + 1, min(columns, first + 3)), chance.randint(top + 1, min(rows, top + 3))
+        fields = {(column, row) for column in range(first, last) for row in range(top, bottom)}
+        if not fields & taken:
+            taken |= fields
+            cells.append((first, last, top, bottom, formula(chance) if formula else some_formula(chance, 2)))
+    return (columns, rows, tuple(cells))

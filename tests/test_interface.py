@@ -86,6 +86,29 @@ PARAMETERS = {
         "least_badness": "formula font room breaks", "best_breaking": "formula font room breaks",
         "lines_paper": "formula font room breaks", "check_lines": "formula font room breaks value",
     },
+    "breakings": {
+        "line_rows": "family formula", "beating": "family formula room breaks breaking",
+        "is_best": "family formula room breaks breaking", "check_best": "family formula room breaks breaking value",
+    },
+    "grids": {
+        "check_grid": "value", "grid_names": "grid", "columns_of": "grid font", "rows_of": "grid font",
+        "last_columns": "grid font width", "slack": "grid font width cell", "grid_items": "grid font", "grid_size": "grid font",
+    },
+    "chains": {"longest_chain": "grid font boundary", "check_chain": "grid font boundary chain"},
+    "widths": {
+        "width_top": "grid family", "least_width": "grid family", "fits_grid": "grid family width",
+        "fits_paper": "grid family width", "ruling": "grid family",
+    },
+    "following": {"led_path": "formula path", "led_claim": "formula claim", "is_within": "family other"},
+    "desks": {"check_thing": "value"},
+    "sheets": {"desk_text": "desk", "read_desk": "text", "judged": "text"},
+}
+
+METHODS = {
+    "put": "label thing", "drop": "label", "rename": "label fresh", "thing": "label", "labels": "", "undo": "", "redo": "",
+    "copy": "", "take": "formula family claim paper", "ask": "formula family claim", "entries": "",
+    "verdict": "formula family claim", "paper": "formula family claim", "follows": "formula family claim", "hangs": "label",
+    "open_cases": "",
 }
 
 
@@ -108,6 +131,23 @@ class Interface(unittest.TestCase):
                     with self.subTest(file=file, function=name, parameter=parameter.name):
                         self.assertIs(parameter.kind, inspect.Parameter.POSITIONAL_OR_KEYWORD)
                         self.assertIs(parameter.default, inspect.Parameter.empty)
+
+    def test_methods_stand_in_their_class(self):
+        desk = importlib.import_module("everyfont.desks").Desk
+        self.assertEqual(desk.__module__, "everyfont.desks")
+        self.assertEqual(list(inspect.signature(desk).parameters), [])
+        for name, parameters in METHODS.items():
+            with self.subTest(method=name):
+                self.assertIn(name, vars(desk))
+                own = inspect.signature(vars(desk)[name]).parameters
+                self.assertEqual(list(own), ["self"] + parameters.split())
+                for parameter in own.values():
+                    self.assertIs(parameter.kind, inspect.Parameter.POSITIONAL_OR_KEYWORD)
+                    self.assertIs(parameter.default, inspect.Parameter.empty)
+        self.assertIsInstance(vars(desk)["acts"], property)
+        self.assertIsNone(vars(desk)["acts"].fset)
+        for name in ("__len__", "__eq__"):
+            self.assertIn(name, vars(desk))
 
 
 if __name__ == "__main__":
