@@ -37,7 +37,7 @@ def lead_parts(formula, path, place, number, found):
     """Put into found where the parts of a "row" lead: to places in a row, from this number on; return the next one."""
     for way in ways_down(formula):
         part = formula[way[0]]
-        if part[0] == "row" and plain(part)[0] == "row":
+        if plain(part)[0] == "row":
             found[path + way] = None
             number = lead_parts(part, path + way, place, number, found)
         else:
@@ -84,8 +84,8 @@ def is_within(family, other):
     table = Table(len(names), family_pairs(family))
     if table.solve() is not None:
         return True
-    rows, others = name_rows(family, len(names)), name_rows(other, len(other[0]))
-    if sorted(rows) != sorted(others):
+    rows = name_rows(family, len(names))
+    if sorted(rows) != sorted(other[0] + tuple([name for name, _ in other[1]])):
         return False
     wanted = []
     for name, number in other[1]:

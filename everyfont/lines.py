@@ -36,7 +36,7 @@ def check_breaks(formula, value):
 
 def is_breaking(breaks, value):
     """Return whether any value is an ascending tuple of some of BREAKS."""
-    return isinstance(value, tuple) and are_places(value, 1, MOST_PARTS) and all([place in breaks for place in value])
+    return are_places(value, 1, MOST_PARTS) and all([place in breaks for place in value])
 
 
 def lines_of(formula, breaking):

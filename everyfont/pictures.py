@@ -3,7 +3,7 @@
 from everyfont.boxes import box_of
 from everyfont.clear import clear_font
 from everyfont.errors import NotFont, NotFormula, Unlike
-from everyfont.fonts import check_font, is_lawful, needed, numbers_for
+from everyfont.fonts import check_font, is_lawful, needed
 from everyfont.plains import plain, table_path
 
 
@@ -34,8 +34,6 @@ def check_picture_font(formula, other, font):
     check_font(font)
     if not is_lawful(font):
         raise NotFont(None)
-    for own in (formula, other):
-        numbers_for(font, needed(own))
     if box_of(formula, font)[3] == box_of(other, font)[3]:
         raise Unlike()
     return True

@@ -8,7 +8,7 @@ from everyfont.boxes import box_of, lay
 from everyfont.clear import clear_font
 from everyfont.entries import check_items, doubled, entry_of
 from everyfont.errors import NotPicture
-from everyfont.fonts import needed, needed_at
+from everyfont.fonts import needed_at
 from everyfont.formulas import MOST_DEPTH, MOST_WORDS, depth_of
 
 
@@ -17,7 +17,7 @@ def read_picture(names, items):
     check_items(items)
     font = clear_font(names)
     formula = Picture(font).read(items)
-    if depth_of(formula) > MOST_DEPTH or not all([name in names for name in needed(formula)]):
+    if depth_of(formula) > MOST_DEPTH:
         raise NotPicture(None)
     # Whatever was taken for granted on the way is so exactly if the FORMULA looks like this.
     if box_of(formula, font)[3] != items:
@@ -60,6 +60,11 @@ class Picture:
 def is_ahead(place, limit):
     """Return whether a place is ahead of a limit, None being none."""
     return limit is None or place < limit
+
+
+def is_roof(entry, upright):
+    """Return whether a rule across is that of the "root" with an upright one: it ends as high above."""
+    return entry.kind == "across" and entry.base + entry.high == upright.base + upright.high
 
 
 class Line:
@@ -119,8 +124,7 @@ class Line:
         found = []
         for entry in self.own:
             if entry.kind == "across" and entry.left == left and not self.is_over(entry):
-                # A root's own rule ends as high above as its upright one does.
-                if upright is None or entry.base + entry.high != upright.base + upright.high:
+                if upright is None or not is_roof(entry, upright):
                     found.append((entry.base, entry.wide, entry))
         return [entry for _, _, entry in sorted(found, key=lambda bar: (bar[0], bar[1]))]
 
@@ -181,13 +185,12 @@ class Line:
 
     def fenced_at(self, upright, limit, depth):
         """Return the "root" or "fence" that begins with an upright rule."""
-        start = upright.left + self.length("rule") + self.length("gap")
+        word = "fence"
         for entry in self.own:
-            if entry.kind == "across" and entry.left == upright.left:
-                if entry.base + entry.high == upright.base + upright.high:
-                    end = entry.left + entry.wide - self.length("gap")
-                    return ("root", self.row_at(start, end, depth + 1))
-        return ("fence", self.row_at(start, limit, depth + 1))
+            if entry.left == upright.left and is_roof(entry, upright):
+                word = "root"
+        start = upright.left + self.length("rule") + self.length("gap")
+        return (word, self.row_at(start, limit, depth + 1))
 
     def sign_at(self, left, depth):
         """Return the sign at left, with the parts above and beneath it, which may be wider than the sign."""
@@ -216,4 +219,4 @@ class Line:
         if not inside:
             return None
         line = self.further(inside, self.base + sign * self.length(word))
-        return line.row_at(inside[0].left, left + right - inside[0].left, depth + 1)
+        return line.row_at(inside[0].left, None, depth + 1)

@@ -479,10 +479,12 @@ class Follows(unittest.TestCase):
 
     def test_not_not(self):
         twice = ("not", ("not", FIVE))
-        desk = desk_with(f=AB, g=FAMILY, c=FIVE, t=twice, n=("not", FIVE), u=("not", ("not", twice)), a=("not", ("and", ("not", FIVE))))
+        desk = desk_with(f=AB, g=FAMILY, c=FIVE, t=twice, n=("not", FIVE), u=("not", ("not", twice)), a=("not", ("and", ("not", FIVE))), b=("not", ("and", FIVE)),
+            o=("not", ("or", FIVE)))
         desk.ask("f", "g", "c")
         self.is_told(
-            desk, ("f", "g", "t", "holds"), ("f", "g", "u", "holds"), ("f", "g", "n", None), ("f", "g", "a", None))
+            desk, ("f", "g", "t", "holds"), ("f", "g", "u", "holds"), ("f", "g", "n", None), ("f", "g", "a", None), ("f", "g", "b", None),
+            ("f", "g", "o", None))
 
     def test_rules_within_rules(self):
         desk = desk_with(f=AB, g=NARROW, h=FAMILY, c=FIVE, b=("and", ("or", FOUR, ("not", ("not", FIVE))), ("and",)))

@@ -85,6 +85,19 @@ class ByHand(unittest.TestCase):
         self.is_told(family, alone_b, alone_a, "wide", ("most", (-1, 1), False))
         self.is_told(family, alone_a, alone_b, "wide", ("most", (9, 1), False))
 
+    def test_rows_that_come_to_the_same(self):
+        # One ROW only comes near to 3 + 2, the other one meets it.
+        family = family_for(("row", HALF, C), X, Y)
+        for one, other in (("gt", "ge"), ("ge", "gt"), ("ge", "ge")):
+            family = (family[0], family[1], ((one, (-1, 0, 3, 1)), (other, (0, -1, 3, 1))))
+            self.is_told(family, HALF, C, "wide", ("most", (4, 1), True))
+        family = (family[0], family[1], (("gt", (-1, 0, 3, 1)), ("gt", (0, -1, 3, 1))))
+        self.is_told(family, HALF, C, "wide", ("most", (4, 1), False))
+        for one, other in ((2, 3), (3, 2)):
+            # The one that is less is met.
+            family = (family[0], family[1], (("gt" if one == 3 else "ge", (-1, 0, one, 1)), ("gt" if other == 3 else "ge", (0, -1, other, 1))))
+            self.is_told(family, HALF, C, "wide", ("most", (4, 1), False))
+
     def test_leads_below_zero(self):
         family = family_for(ROW, WIDE_A, WIDE_B, system=(("ge", (0, 1, -2, 1)),))
         self.is_told(family, A, ROW, "wide", ("most", (-3, 1), True))

@@ -120,8 +120,16 @@ class Refused(unittest.TestCase):
         self.assertEqual(raised(self, NotPicture, read_picture, names, items).number, number)
 
     def test_more_than_a_formula_can_have(self):
-        for formula in (("row", *((A,) * 60)), ("row", *((("bar", A),) * 30)), ("row", *((A,) * 300))):
+        for formula in (
+                ("row", *((A,) * 60)), ("row", *((("bar", A),) * 30)), ("row", *((A,) * 300)), ("row", *((("high", A, B),) * 20)), ("row", *((("both", A, B, B),) * 15)),
+                ("over", ("row", *((A,) * 29)), ("row", *((A,) * 29))), ("row", *((("limits", "a", A, B),) * 20))):
             self.is_refused(needed(formula), items_in(needed(formula), formula), None)
+        deep = A
+        for _ in range(4):
+            deep = ("bar", ("row", A, deep))
+        self.assertEqual(depth_of(deep), 9)
+        self.is_refused(needed(deep), items_in(needed(deep), deep), None)
+        self.assertEqual(read_picture(needed(deep[1]), items_in(needed(deep[1]), deep[1])), deep[1])
         for word in ("bar", "root", "fence"):
             formula = A
             for _ in range(8):

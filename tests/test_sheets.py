@@ -154,10 +154,10 @@ class Refused(unittest.TestCase):
     def test_families(self):
         for text, word in (
                 ("family g 13", 2), ("family g -1", 2), ("family g 12", 3), ("family g 2 wide a 0 wide a 0 0 0", 8), ("family g 2 wide b 0 wide a 7 0 0", 8), ("family g 2 gap 1 gap 0 0 0", 6),
-                ("family g 2 gap 1 axis 7 0 0", 6), ("family g 1 gap 8 0 0", 4), ("family g 1 gap a 0 0", 4), ("family g 1 wide 0 0 0", 4), ("family g 1 none 0 0 0", 3),
+                ("family g 2 gap 1 axis 7 0 0", 6), ("family g 3 gap 0 gap 2 gap 1 0 0", 8), ("family g 1 gap 8 0 0", 4), ("family g 1 gap a 0 0", 4), ("family g 1 wide 0 0 0", 4), ("family g 1 none 0 0 0", 3),
                 ("family g 0 -1", 3), ("family g 0 1 gap 0 0 1 0", 6), ("family g 0 1 gap 0 -1 1 0", 6), ("family g 0 1 deep a 0 -1 1 0", 7), ("family g 0 1 space 0 -5 1 0", 6),
                 ("family g 0 1 gap 0 1 0 0", 7), ("family g 0 1 gap 0 1 -1 0", 7), ("family g 0 1 gap 0 2 4 0", 7), ("family g 0 1 space 0 0 2 0", 7), ("family g 0 1 space 0 0 1 0 0", 9),
-                ("family g 0 2 gap 0 1 1 gap 0 1 1 0", 9), ("family g 0 2 gap 1 1 1 gap 0 1 1 0", 9), ("family g 0 2 gap 1 1 1 axis 3 1 1 0", 9),
+                ("family g 0 2 gap 0 1 1 gap 0 1 1 0", 9), ("family g 0 2 gap 1 1 1 gap 0 1 1 0", 9), ("family g 0 2 gap 1 1 1 axis 3 1 1 0", 9), ("family g 0 3 gap 0 1 1 gap 2 1 1 gap 1 1 1 0", 13),
                 ("family g 1 gap 0 1 gap 0 1 1 0", 7), ("family g 1 gap 0 2 axis 0 1 1 gap 0 1 1 0", 11), ("family g 1 gap 0 2 gap 1 1 1 gap 0 1 1 0", 11), ("family g 0 0 41", 4), ("family g 0 0 -1", 4),
                 ("family g 0 0 1 ne 1 1", 5), ("family g 0 0 1 ge 1 0", 7), ("family g 0 0 1 ge 1 -1", 7), ("family g 0 0 1 ge 2 2", 7), ("family g 0 0 1 ge 0 2", 7), ("family g 0 0 1 ge 0 1 1", 8),
                 ("family g 1 gap 0 0 1 ge 2 4 2", 10), ("family g 1 gap 0 0 1 ge 0 0 2", 10), ("family g 1 gap 0 0 1 ge 2 4 1 0", 11), ("family g 1 gap 0 0 1 ge 3 a 1", 9)):

@@ -136,6 +136,8 @@ class Papers(unittest.TestCase):
             ("met", (3, 4, 1), self.lots), ("met", (4, 5, 1), self.lots), ("met", (0, 5, 1), self.lots), ("met", (3, 5, 1), (x_lot, y_lot)),
             ("met", (3, 5, 1), (y_lot, y_lot)), ("met", (3, 5, 1), (spare_lot, x_lot)), ("met", (3, 5, 1), (y_lot, ((0, 1),) * 4)),
             ("met", (3, 5, 1), (y_lot, ((1, 1), (-1, 1), (0, 1), (-1, 1)))), ("met", (3, 6, 1), self.lots),
+            # y is left over, or x.
+            ("met", (3, 5, 1), (y_lot, ((1, 1), (0, 1), (0, 1), (1, 1)))), ("met", (3, 5, 1), (((0, 1), (1, 1), (1, 1), (0, 1)), x_lot)),
         ])
 
     def test_near(self):
@@ -203,6 +205,23 @@ class Papers(unittest.TestCase):
         family = half_family(("gt", (1, 1, -3, 1)))
         self.are_papers("least", [("near", (2, 2, 1), (3, 3, 2), half, weights)], ("least", (7, 2), False), [
             ("met", (3, 3, 2), half, weights), ("met", (2, 2, 1), half, weights), ("near", (3, 3, 2), (3, 3, 2), half, weights)], family)
+
+    def test_shares_and_weights_alone(self):
+        # 11/10 x - 11/20 - y, 2 x - 1, 6 - x: 2 (x + 2) - (y + 2) is at least 3, and (1, 1/10) is 3 wide.
+        family = half_family(("ge", (22, -20, -11, 20)), ("ge", (2, 0, -1, 1)), ("ge", (-1, 0, 6, 1)))
+        self.assertEqual(box_tops(family, HALF)[0], ((0, 1, 2, 1), (1, 0, 2, 1)))
+        paper = ("met", (10, 1, 10), ((-1, 1), (2, 1)), ((1, 1), (9, 20), (0, 1), (0, 1), (0, 1)))
+        self.are_papers("least", [], None, [paper], family)
+        # x and y from 1 to 4: x + 2 + y + 2 is 6 + (x - 1) + (y - 1); x + 2 is 6 - (4 - x).
+        family = half_family(("ge", (1, 0, -1, 1)), ("ge", (0, 1, -1, 1)), ("ge", (-1, 0, 4, 1)))
+        nothing = ((0, 1), (0, 1))
+        self.are_papers("least", [
+            ("met", (1, 1, 1), ((0, 1), (1, 1)), ((1, 1), (0, 1), (0, 1)) + nothing),
+            ("met", (1, 1, 1), ((1, 1), (0, 1)), ((0, 1), (1, 1), (0, 1)) + nothing)], ("least", (3, 1), True), [
+            ("met", (4, 1, 1), ((1, 1), (1, 1)), ((1, 1), (1, 1), (0, 1)) + nothing),
+            ("met", (4, 1, 1), ((0, 1), (1, 1)), ((0, 1), (0, 1), (-1, 1)) + nothing),
+            ("met", (1, 1, 1), ((0, 1), (0, 1)), ((0, 1), (0, 1), (0, 1)) + nothing),
+            ("met", (1, 1, 1), ((0, 1), (1, 1)), ((0, 1), (1, 1), (0, 1)) + nothing)], family)
 
     def test_forms(self):
         half, weights = ((1, 2), (1, 2)), ((0, 1), (0, 1), (1, 2), (1, 2))
