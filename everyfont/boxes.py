@@ -264,19 +264,14 @@ def items_of(layout):
 
 def sorted_items(items):
     """Return the tuple of ITEMS, sorted by the values of their numbers."""
-    bottom = bottom_of_items(items)
-    keyed = [(item_key(item, bottom), item) for item in items]
-    return tuple([item for _, item in sorted(keyed)])
-
-
-def bottom_of_items(items):
-    """Return the least common multiple of all bottoms in ITEMS."""
     bottoms = []
     for left, base, thing in items:
         bottoms.extend([left[1], base[1]])
         if thing[0] == "rule":
             bottoms.extend([thing[1][1], thing[2][1]])
-    return shared_bottom(bottoms)
+    bottom = shared_bottom(bottoms)
+    keyed = [(item_key(item, bottom), item) for item in items]
+    return tuple([item for _, item in sorted(keyed)])
 
 
 def item_key(item, bottom):

@@ -1,10 +1,9 @@
 """The entries of a picture: any value judged as ITEMS, and what each of them is in the clear font."""
 
-from everyfont.boxes import bottom_of_items, item_key
 from everyfont.errors import NotPicture
 from everyfont.fonts import is_level
 from everyfont.formulas import is_sign, word_of
-from everyfont.numbers import is_fraction
+from everyfont.numbers import compared, is_fraction
 
 
 def is_item(value):
@@ -24,10 +23,18 @@ def is_drawn(value):
     return is_sign(value[1]) and is_level(value[2])
 
 
-def is_behind(item, ahead):
-    """Return whether an item is greater, by values, than the one ahead, or the same."""
-    bottom = bottom_of_items((item, ahead))
-    return item_key(item, bottom) >= item_key(ahead, bottom)
+def order_of(item, other):
+    """Return -1, 0 or 1: whether an item stands ahead of another one, is the same, or stands behind it."""
+    for one, two in zip(item[:2], other[:2]):
+        if one != two:
+            return compared(one, two)
+    one, two = item[2], other[2]
+    if one == two:
+        return 0
+    # Rules stand ahead of signs, as "rule" does of "sign".
+    if one[0] == "sign" or two[0] == "sign":
+        return 1 if one > two else -1
+    return compared(one[1], two[1]) if one[1] != two[1] else compared(one[2], two[2])
 
 
 def check_items(value):
@@ -35,7 +42,7 @@ def check_items(value):
     if not isinstance(value, tuple):
         raise NotPicture(None)
     for number, item in enumerate(value):
-        if not is_item(item) or (number > 0 and not is_behind(item, value[number - 1])):
+        if not is_item(item) or (number > 0 and order_of(item, value[number - 1]) < 0):
             raise NotPicture(number)
     return value
 

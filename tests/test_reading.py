@@ -201,7 +201,8 @@ class Refused(unittest.TestCase):
         names = needed(("fence", A))
         sign, rule = ("sign", "b", 1), ("rule", (1, 1), (1, 1))
         rising = (
-            ((-1, 1), (5, 1), sign), ((0, 1), (-1, 1), sign), ((0, 1), (-1, 2), sign), ((0, 1), (-1, 3), sign), ((0, 1), (1, 3), rule),
+            ((-1, 1), (5, 1), sign), ((0, 1), (-1, 1), sign), ((0, 1), (-1, 2), sign), ((0, 1), (-1, 3), sign),
+            ((0, 1), (1, 3), ("rule", (1, 3), (5, 1))), ((0, 1), (1, 3), ("rule", (1, 2), (1, 3))), ((0, 1), (1, 3), ("rule", (1, 2), (1, 2))), ((0, 1), (1, 3), rule),
             ((0, 1), (1, 3), ("rule", (1, 1), (10, 9))), ((0, 1), (1, 3), ("rule", (10, 9), (0, 1))), ((0, 1), (1, 3), ("sign", "a", 5)),
             ((0, 1), (1, 3), ("sign", "b", 0)), ((0, 1), (1, 3), sign), ((1, 9), (0, 1), rule), ((1, 8), (0, 1), rule))
         self.is_refused(names, rising, None)
@@ -217,7 +218,9 @@ class Refused(unittest.TestCase):
         great = 10 ** 3999
         items = tuple((whole(great + number), (1, great + 2 * number), ("rule", (3, great), (great, 7))) for number in range(60))
         with Within(self, 20):
-            self.is_refused(names, tuple(item for item in items if item[2][1][0] == 3), None)
+            self.is_refused(names, items, None)
+        with Within(self, 20):
+            self.is_refused(names, tuple(item for item in items for _ in range(20)) + (None,), 20 * len(items))
         many = tuple((whole(number), whole(0), ("sign", "a", 0)) for number in range(20000))
         with Within(self, 20):
             self.is_refused(names, many, None)
