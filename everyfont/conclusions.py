@@ -10,17 +10,27 @@ from everyfont.steps import Written, values_of
 
 
 class Proved:
-    """What the entries of a book show: FONTS in which CLAIMS break, and KEYS of CLAIMS that hold."""
+    """What the entries of a book show: FONTS in which CLAIMS break, and what holds on which FAMILIES.
+
+    Of each KEY that holds there are its first and its third thing and the number of its FAMILY.
+    """
 
     def __init__(self, entries):
-        fonts = []
+        self.fonts = []
+        self.families = []
         self.held = []
         for key, _, family, _, paper in entries:
             if paper[0] == "holds":
-                self.held.append(key)
+                self.held.append((key[0], key[2], number_in(self.families, family)))
             else:
-                fonts.append(family_font(family, paper[1]))
-        self.fonts = [font for number, font in enumerate(fonts) if font not in fonts[:number]]
+                number_in(self.fonts, family_font(family, paper[1]))
+
+
+def number_in(found, thing):
+    """Return the number of a thing in a list, behind all others if it was not there."""
+    if thing not in found:
+        found.append(thing)
+    return found.index(thing)
 
 
 class OnFormula:
@@ -49,7 +59,7 @@ class OnFormula:
 
 
 class OnFamily:
-    """A FAMILY: which FONTS are its own, and which KEYS' FAMILIES, as far as they are asked for, it is within."""
+    """A FAMILY: which FONTS are its own, and within which of those of KEYS, as far as they are asked for, it is."""
 
     def __init__(self, family, proved):
         self.family = family
@@ -58,10 +68,10 @@ class OnFamily:
         self.own = [number for number, font in enumerate(proved.fonts) if is_font_of(family, font)]
         self.known = {}
 
-    def is_within_key(self, number):
-        """Return whether it is within the FAMILY of the KEY with this number."""
+    def is_within_proved(self, number):
+        """Return whether it is within the FAMILY with this number."""
         if number not in self.known:
-            self.known[number] = is_within(self.family, self.proved.held[number][1])
+            self.known[number] = is_within(self.family, self.proved.families[number])
         return self.known[number]
 
 
@@ -85,7 +95,7 @@ def does_hold(on_formula, on_family, claim):
 def is_key_held(on_formula, on_family, claim):
     """Return whether an entry shows that a CLAIM holds on a FAMILY within which this one is."""
     first, third = on_formula.ends_of_key(claim)
-    for number, key in enumerate(on_family.proved.held):
-        if key[0] == first and key[2] == third and on_family.is_within_key(number):
+    for own_first, own_third, number in on_family.proved.held:
+        if own_first == first and own_third == third and on_family.is_within_proved(number):
             return True
     return False

@@ -80,7 +80,9 @@ def key_of(formula, family, claim):
 
 def is_within(family, other):
     """Return whether each font of the first FAMILY is a font of the other one."""
-    names, fixed, _ = family
+    if family == other:
+        return True
+    names = family[0]
     table = Table(len(names), family_pairs(family))
     if table.solve() is not None:
         return True
