@@ -4,14 +4,13 @@ from math import gcd
 
 from everyfont.claims import PLACE_WORDS, SIGNS
 from everyfont.families import MOST_FAMILY_PAIRS, MOST_UNKNOWNS
-from everyfont.fonts import LEVEL_WORDS, MOST_LEVEL, SIGN_WORDS, is_lawful_number
-from everyfont.formulas import MOST_DEPTH, MOST_LETTERS, MOST_WORDS
+from everyfont.fonts import is_lawful_number
+from everyfont.formulas import MOST_DEPTH, MOST_WORDS
 from everyfont.points import shared_divisor
 from everyfont.systems import WORDS
 from everyfont.texts import formula_from, formula_words, fraction_from, name_from
 
 MOST_SUM_PAIRS = 60
-LETTERS = 26
 
 
 def as_words(things):
@@ -76,63 +75,21 @@ def thing_from(reader, word):
 def family_from(reader):
     """Return the FAMILY that the next words tell."""
     names = []
-    many = reader.integer_within(0, MOST_UNKNOWNS)
-    for wanted in reversed(range(many)):
-        names.append(name_ahead_of(reader, names, wanted, []))
+    for _ in range(reader.integer_within(0, MOST_UNKNOWNS)):
+        names.append(name_from(reader, names[-1] if names else None))
     fixed = []
-    many = reader.integer_within(0, names_in_all() - len(names))
-    for wanted in reversed(range(many)):
-        name = name_ahead_of(reader, [own for own, _ in fixed[-1:]], wanted, names)
+    many = count_from(reader)
+    # How many NAMES there are at all does not count: what is too many here lacks words, or order.
+    while len(fixed) < many:
+        name = name_from(reader, fixed[-1][0] if fixed else None)
+        if name in names:
+            reader.refuse()
         fixed.append((name, lawful_fraction_from(reader, name)))
     system = []
     for _ in range(reader.integer_within(0, MOST_FAMILY_PAIRS)):
         word = reader.one_of(WORDS)
         system.append((word, row_from(reader, len(names))))
     return (tuple(names), tuple(fixed), tuple(system))
-
-
-def name_ahead_of(reader, ahead, wanted, others):
-    """Return the NAME that the next words tell: behind those ahead, none of some others, and so many more wanted."""
-    name = name_from(reader, ahead[-1] if ahead else None)
-    left = [own for own in others if own > name]
-    if name in others or names_behind(name) - len(left) < wanted:
-        reader.refuse()
-    return name
-
-
-def signs_from(letters):
-    """Return how many SIGNS begin with a letter that is told, having at most so many letters."""
-    many = 0
-    for _ in range(letters):
-        many = 1 + LETTERS * many
-    return many
-
-
-def names_of_word(word):
-    """Return how many NAMES have a word."""
-    return (LETTERS * signs_from(MOST_LETTERS) if word in SIGN_WORDS else 1) * (MOST_LEVEL + 1)
-
-
-def names_in_all():
-    """Return how many NAMES there are."""
-    return sum([names_of_word(word) for word in SIGN_WORDS + LEVEL_WORDS])
-
-
-def signs_behind(letters):
-    """Return how many SIGNS are greater than one."""
-    many = signs_from(MOST_LETTERS) * LETTERS
-    for number, letter in enumerate(letters):
-        # Those with a lesser letter here, and the one that ends here.
-        many -= (ord(letter) - ord("a")) * signs_from(MOST_LETTERS - number) + 1
-    return many
-
-
-def names_behind(name):
-    """Return how many NAMES are greater than one."""
-    many = MOST_LEVEL - name[-1]
-    if name[0] in SIGN_WORDS:
-        many += signs_behind(name[1]) * (MOST_LEVEL + 1)
-    return many + sum([names_of_word(word) for word in SIGN_WORDS + LEVEL_WORDS if word > name[0]])
 
 
 def lawful_fraction_from(reader, name):

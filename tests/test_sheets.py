@@ -8,7 +8,6 @@ from everyfont.errors import NotClaim, NotFont, NotName, NotText, TooGreat
 from everyfont.formulas import words_of
 from everyfont.prover import judge
 from everyfont.sheets import desk_text, judged, read_desk
-from everyfont.things import names_behind, names_in_all
 from wrong import ANYTHING, Within, deep_tuple, raised
 
 A, B = ("sign", "a"), ("sign", "b")
@@ -91,20 +90,6 @@ class ByHand(unittest.TestCase):
             wrong = raised(self, NotText, read_desk, line.format(greater))
             self.assertEqual((wrong.line, wrong.word), (0, number))
 
-    def test_names_that_there_are(self):
-        # 26 + .. + 26 ** 8 SIGNS, at 8 levels for three words, and six words more.
-        signs = sum(26 ** number for number in range(1, 9))
-        self.assertEqual(names_in_all(), 3 * 8 * signs + 48)
-        names = [("axis", 0), ("axis", 7), ("deep", "a", 0), ("deep", "a", 7), ("deep", "aa", 0), ("deep", "zzzzzzzz", 7), ("fall", 0), ("space", 7), ("wide", "a", 0)]
-        self.assertEqual([names_behind(one) - names_behind(other) for one, other in zip(names, names[1:])], [
-            7, 1, 7, 1, names_behind(("deep", "aa", 0)) - names_behind(("deep", "zzzzzzzz", 7)), 1, 16 + 8 * signs + 8 + 8 + 7, 1])
-        self.assertEqual(names_behind(("deep", "a", 0)) - names_behind(("fall", 0)), 8 * signs)
-        self.assertEqual(names_behind(("axis", 0)), names_in_all() - 1)
-        self.assertEqual(names_behind(("wide", "zzzzzzzz", 7)), 0)
-        # Behind "az": "aza" .., "b" ..; behind "zzzzzzz": "zzzzzzza" to "zzzzzzzz".
-        self.assertEqual(names_behind(("wide", "zzzzzzz", 7)), 26 * 8)
-        self.assertEqual(names_behind(("wide", "az", 7)) - names_behind(("wide", "b", 7)), 8 * (1 + sum(26 ** number for number in range(1, 7))))
-
 
 class Refused(unittest.TestCase):
     def is_refused(self, text, line, word):
@@ -164,19 +149,43 @@ class Refused(unittest.TestCase):
             self.is_refused(text, 0, word)
         self.assertEqual(len(read_desk("family g 1 gap 0 2 axis 0 1 1 gap 1 1 1 1 eq 0 0 1").thing("g")[1][1]), 2)
 
-    def test_names_that_do_not_fit(self):
-        # There is no NAME behind this one; two behind the next one.
-        self.is_refused("family g 2 wide zzzzzzzz 7 wide zzzzzzzz 7 0 0", 0, 5)
-        self.is_refused("family g 4 wide zzzzzzzz 5 wide zzzzzzzz 6 wide zzzzzzzz 7 wide zzzzzzzz 7 0 0", 0, 5)
+    def test_names_out_of_their_order(self):
+        # There is no NAME behind this one: it can stand, but the next one, which is not greater, cannot.
+        self.is_refused("family g 2 wide zzzzzzzz 7", 0, 6)
+        self.is_refused("family g 12 wide zzzzzzzz 7", 0, 6)
+        self.is_refused("family g 2 wide zzzzzzzz 7 0 0", 0, 6)
+        self.is_refused("family g 2 wide zzzzzzzz 7 gap 0 0 0", 0, 7)
+        self.is_refused("family g 2 wide zzzzzzzz 7 wide zzzzzzzz 7 0 0", 0, 8)
+        self.is_refused("family g 2 wide zzzzzzzz 7 wide zzzzzzzz 8 0 0", 0, 8)
+        self.is_refused("family g 2 wide zzzzzzzz 7 wide zzzzzzzz", 0, 8)
+        self.is_refused("family g 4 wide zzzzzzzz 5 wide zzzzzzzz 6 wide zzzzzzzz 7 wide zzzzzzzz 7 0 0", 0, 14)
         self.assertEqual(len(read_desk("family g 3 wide zzzzzzzz 5 wide zzzzzzzz 6 wide zzzzzzzz 7 0 0").thing("g")[1][0]), 3)
-        # One of those behind is an unknown.
-        self.is_refused("family g 1 wide zzzzzzzz 7 2 wide zzzzzzzz 6 1 1", 0, 9)
+        self.is_refused("family g 0 2 wide zzzzzzzz 7 1 1 gap 0 1 1 0", 0, 10)
+        self.is_refused("family g 0 2 wide zzzzzzzz 7 1 1 wide zzzzzzzz 7 1 1 0", 0, 11)
+        self.is_refused("family g 0 2 wide zzzzzzzz 7 1 1", 0, 9)
+        self.is_refused("family g 0 2 wide zzzzzzzz 7 1 1 0", 0, 9)
+        self.is_refused("family g 1 wide zzzzzzzz 7 2 wide zzzzzzzz 6 1 1", 0, 12)
+        self.is_refused("family g 1 wide zzzzzzzz 7 2 wide zzzzzzzz 6 1 1 wide zzzzzzzz 7 1 1 0", 0, 14)
         self.assertEqual(len(read_desk("family g 1 wide zzzzzzzz 6 2 wide zzzzzzzz 5 1 1 wide zzzzzzzz 7 1 1 0").thing("g")[1][1]), 2)
-        many = names_in_all()
-        self.is_refused("family g 0 {}".format(many), 0, 4)
-        self.is_refused("family g 0 {}".format(many + 1), 0, 3)
-        self.is_refused("family g 1 gap 0 {}".format(many), 0, 5)
-        self.is_refused("family g 0 1" + "0" * 999, 0, 3)
+
+    def test_fixed_unknowns(self):
+        for level in range(3):
+            self.is_refused("family g 3 gap 0 gap 1 gap 2 1 gap {} 1 1 0".format(level), 0, 11)
+            self.is_refused("family g 3 wide a 0 wide a 1 wide a 2 2 axis 0 1 1 wide a {} 1 1 0".format(level), 0, 19)
+        self.assertEqual(len(read_desk("family g 3 gap 0 gap 1 gap 2 1 gap 3 1 1 0").thing("g")[1][1]), 1)
+
+    def test_many_fixed_pairs(self):
+        # More than there are NAMES, and still an integer that can stand.
+        for many in ("2", "5428774286352", "9" * 1000, "1" + "0" * 999):
+            self.is_refused("family g 0 " + many, 0, 4)
+            self.is_refused("family g 0 " + many + " 0", 0, 4)
+            self.is_refused("family g 1 gap 0 " + many, 0, 6)
+            self.is_refused("family g 0 " + many + " gap 0 1 1", 0, 8)
+            self.is_refused("family g 0 " + many + " gap 0 1 1 gap 0", 0, 9)
+            self.is_refused("family g 0 " + many + " gap 0 1 1 wide zzzzzzzz 7 1 1", 0, 13)
+        for many in ("1" + "0" * 1000, "-1", "-" + "9" * 1000, "-0", "02"):
+            self.is_refused("family g 0 " + many, 0, 3)
+            self.is_refused("family g 0 " + many + " gap 0 1 1 0", 0, 3)
 
     def test_formulas(self):
         deep = "formula f " + "bar " * 7
